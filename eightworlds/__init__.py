@@ -1,0 +1,1 @@
+"""Eightworlds: polygons cut into pieces, and all that is one with them."""

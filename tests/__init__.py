@@ -1,0 +1,1 @@
+"""The tests of the package; run them with python3 -m unittest."""

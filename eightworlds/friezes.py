@@ -34,7 +34,6 @@ def frieze_of_counts(row):
 
 def frieze(cutting):
     """Return the frieze of a cutting."""
-    need_cutting(cutting)
     return frieze_of_counts(counts_at(cutting))
 
 

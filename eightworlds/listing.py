@@ -4,7 +4,7 @@ from math import comb
 
 from eightworlds.basics import is_between, need_few, need_number
 from eightworlds.errors import InvalidPrime, InvalidSides
-from eightworlds.polygons import need_cutting, need_sides, pieces
+from eightworlds.polygons import need_cutting, need_sides, parts
 
 
 def ways_of_forks(forks):
@@ -56,7 +56,7 @@ def number_over(low, high, thirds):
 def number_of(cutting):
     """Return the number of a cutting."""
     need_cutting(cutting)
-    thirds = {(low, high): third for low, third, high in pieces(cutting)}
+    thirds = {(low, high): third for low, third, high in parts(cutting[0], cutting[1])}
     return number_over(0, cutting[0] - 1, thirds)
 
 
@@ -95,15 +95,15 @@ def count_plain(sides):
 
 
 def is_prime(number):
-    """Return whether an integer is a prime."""
-    return number > 1 and all([number % lesser > 0 for lesser in range(2, number)])
+    """Return whether an integer from 2 on is a prime."""
+    return all([number % lesser > 0 for lesser in range(2, number)])
 
 
 def choices_rest(things, many, prime):
     """Return what the number of choices of so many of the things leaves by a prime."""
     # It is the product over the digits of both by the prime, says Lucas.
     rest = 1
-    while many > 0 and rest > 0:
+    while many > 0:
         things, one = divmod(things, prime)
         many, other = divmod(many, prime)
         rest = rest * comb(one, other) % prime

@@ -105,7 +105,6 @@ def counts_at(cutting):
 
 def ears(cutting):
     """Return the ascending list of all corners with one piece alone."""
-    need_cutting(cutting)
     return [corner for corner, many in enumerate(counts_at(cutting)) if many == 1]
 
 

@@ -13,7 +13,7 @@ def is_shape(value):
     """Return whether any value is a shape."""
     if not isinstance(value, tuple) or len(value) > MOST_WORDS:
         return False
-    return all([isinstance(word, str) and word in ("right", "up") for word in value])
+    return all([word in ("right", "up") for word in value])
 
 
 def need_shape(value):

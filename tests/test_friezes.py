@@ -105,6 +105,18 @@ class Friezes(TestCase):
             with self.assertRaises(InvalidFrieze):
                 frieze_cutting(value)
 
+    def test_what_rows_that_come_round_have(self):
+        # These rows come round with -1, so all their numbers fit; but they are the counts of no cutting.
+        for row in ((1, 0, 0, 0, 0, 1, 1), (1, 150, 0, -149, 200, 0, -199), (1, 50, 0, -49, 70, 0, -69)):
+            corners = range(len(row))
+            told = tuple(
+                tuple(slow_number(row, min(i, j), abs(i - j)) if i != j else 0 for j in corners) for i in corners
+            )
+            self.assertTrue(all(told[i - 1][i + 1 if i < 6 else 0] == row[i] for i in corners))
+            self.assertIs(is_frieze(told), False)
+            with self.assertRaises(InvalidFrieze):
+                frieze_cutting(told)
+
     def test_near_ones(self):
         for cutting in (P, helpers.zigzag(8), helpers.fan(40)):
             told = frieze(cutting)

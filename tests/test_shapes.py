@@ -76,7 +76,7 @@ class ByTally(TestCase):
                 shape_by(wrong, 1)
             with self.assertRaises(InvalidNumber):
                 shape_by(5, wrong)
-        for top, below in ((1, 1), (2, 2), (4, 2), (2, 5), (1, 2), (9, 6), (10 ** 30, 10), (0, 0), (5, True), (5, 0)):
+        for top, below in ((1, 1), (2, 2), (4, 2), (2, 5), (1, 2), (9, 6), (10 ** 30, 10), (0, 0), (5, True), (5, 0), (1, 0)):
             with self.assertRaises(InvalidNumber):
                 shape_by(top, below)
 

@@ -1,5 +1,6 @@
 """Exchanges of cuts."""
 
+from eightworlds.basics import are_ints
 from eightworlds.polygons import need_cut, need_cutting, parts
 
 
@@ -23,6 +24,18 @@ def exchanged(cutting, cut):
     need_cut(cutting, cut)
     sides, cuts = cutting
     return (sides, tuple(sorted([other for other in cuts if other != cut] + [cut_behind(cutting, cut)])))
+
+
+def cuttings_along(cutting, value, most):
+    """Return the list of the cuttings along a way, the first one too, or None if any value is no way so short."""
+    if not isinstance(value, tuple) or len(value) > most:
+        return None
+    along = [cutting]
+    for cut in value:
+        if not are_ints(cut, 2) or cut not in along[-1][1]:
+            return None
+        along.append(exchanged(along[-1], cut))
+    return along
 
 
 def exchanges(cutting):

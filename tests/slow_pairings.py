@@ -58,3 +58,38 @@ def levels_of(shape):
         layer = found
     assert sorted(levels) == pairings
     return levels
+
+
+def flips_of(pairing, tiles):
+    """All pairs of the index of a tile at which a pairing can be flipped, and the pairing then."""
+    found = []
+    for at, (left, right, lower, upper) in enumerate(tiles):
+        for here, there in (((left, right), (lower, upper)), ((lower, upper), (left, right))):
+            if set(here) <= set(pairing):
+                found.append((at, tuple(sorted(set(pairing) - set(here) | set(there)))))
+    return found
+
+
+def lots_of(spots):
+    """The lot of each pairing of a snake with these spots, checked over all ways with as few flips as can be."""
+    tiles = [tile_rails(spot) for spot in spots]
+    if not tiles:
+        return {(): ()}
+    seen = [rail for tile in tiles for rail in tile]
+    low = next(
+        pairing for pairing in all_pairings(sorted(set(seen)))
+        if tiles[0][0] in pairing and all(seen.count(rail) == 1 for rail in pairing)
+    )
+    lots = {low: set()}
+    layer = [low]
+    while layer:
+        behind = {}
+        for pairing in layer:
+            for at, other in flips_of(pairing, tiles):
+                if other not in lots:
+                    assert at not in lots[pairing]
+                    lot = lots[pairing] | {at}
+                    assert behind.setdefault(other, lot) == lot
+        lots.update(behind)
+        layer = list(behind)
+    return {pairing: tuple(sorted(lot)) for pairing, lot in lots.items()}

@@ -10,8 +10,9 @@ from tests import helpers
 
 HERE = Path(__file__).parent
 DOCUMENT = HERE.parent.parent / "shared" / "DOC.md"
-MODULES = ("polygons exchanges turning listing rows friezes choices valued roads chains gears measures snakes "
-           "shapes").split()
+MODULES = """polygons exchanges turning listing rows friezes choices valued roads chains gears measures snakes pairings
+shapes lengths tables sums names leads treeforms treerows treenumbers treeorder treechains partings overs partingcounts
+swaps""".split()
 
 
 def sections():

@@ -127,11 +127,23 @@ class Forms(TestCase):
     def test_no_other_statements(self):
         barred = (
             ast.Global, ast.AsyncFunctionDef, ast.Await, ast.Try, ast.With, ast.Match, ast.GeneratorExp, ast.Yield,
-            ast.YieldFrom, ast.Lambda, ast.AugAssign, ast.AnnAssign, ast.Starred, ast.NamedExpr, ast.Set, ast.Div,
+            ast.YieldFrom, ast.Lambda, ast.AugAssign, ast.AnnAssign, ast.NamedExpr, ast.Set, ast.Div,
         )
         self.assertEqual([(path.name, node.lineno) for path, node in nodes(barred)], [])
         self.assertEqual([path.name for path, node in nodes(ast.FunctionDef) if node.decorator_list], [])
         self.assertEqual([path.name for path, node in nodes(ast.Constant) if isinstance(node.value, (float, bytes))], [])
+
+    def test_stars_stand_in_zips(self):
+        # Behind a star stands a name, and the zip goes straight into a list.
+        lists = [node for _, node in nodes(ast.Call) if isinstance(node.func, ast.Name) and node.func.id == "list"]
+        zips = [
+            inner for node in lists for inner in node.args
+            if isinstance(inner, ast.Call) and isinstance(inner.func, ast.Name) and inner.func.id == "zip"
+        ]
+        fine = {id(one) for inner in zips for one in inner.args if len(inner.args) == 1}
+        for path, node in nodes(ast.Starred):
+            self.assertIn(id(node), fine, path)
+            self.assertIsInstance(node.value, ast.Name, path)
 
     def test_powers_are_literal(self):
         for path, node in nodes(ast.BinOp):

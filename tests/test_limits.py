@@ -1,29 +1,16 @@
 """The limits of the document: each call answers within about a second."""
 
-from unittest import TestCase
-
 from eightworlds import (
     chains, choices, exchanges, friezes, gears, listing, measures, polygons, roads, rows, shapes, snakes, turning, valued,
 )
-from eightworlds.errors import WorldError
 from tests import helpers
-from tests.calls import CALLS
+from tests.every_call import EVERY_CALL
+from tests.timed import Timed
 
-SECOND = 1.0
 FORTY = [helpers.fan(40), helpers.fan(40, 39), helpers.zigzag(40), helpers.halved(40), listing.cutting_with(40, 10 ** 20)]
 
 
-class Limits(TestCase):
-    def timed(self, call, *arguments):
-        """Return what a call returns, or its error, if it is quick enough."""
-        with helpers.Meanwhile() as meanwhile:
-            try:
-                told = call(*arguments)
-            except WorldError as error:
-                told = error
-        self.assertLess(meanwhile.seconds, SECOND, call.__name__)
-        return told
-
+class Limits(Timed):
     def test_cuttings_of_forty_sides(self):
         for cutting in FORTY:
             for call in (
@@ -119,7 +106,7 @@ class Limits(TestCase):
         some = [helpers.nested(29, leaf, kind) for leaf in (0, (), "x", None) for kind in (tuple, list)]
         some += [wide(kind, 1, 29, 400) for kind in (tuple, list)] + [(5, some[0]), (5, (some[0],) * 400), (some[0],) * 400]
         some += [(0,) * 400, ((0, 2),) * 400, ((0, 2),) * 37, (40, ((0, 2),) * 37), (40, ((0, 2),) * 400)]
-        for call, arguments, _, *_ in CALLS:
+        for call, arguments, _, *_ in EVERY_CALL:
             for at in range(len(arguments)):
                 for value in some:
                     self.timed(call, *arguments[:at], value, *arguments[at + 1:])

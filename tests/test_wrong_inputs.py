@@ -5,7 +5,7 @@ from unittest import TestCase
 
 from eightworlds.errors import TooMany
 from tests import helpers
-from tests.calls import CALLS
+from tests.every_call import EVERY_CALL
 from tests.helpers import nested
 
 
@@ -16,7 +16,7 @@ def put(arguments, at, value):
 
 def each_call():
     """Each call of the table, with nothing for too many where there is no such limit."""
-    for call, arguments, wrong, *limit in CALLS:
+    for call, arguments, wrong, *limit in EVERY_CALL:
         yield call, arguments, wrong, (limit if limit else (None, None))
 
 
@@ -48,7 +48,7 @@ class Wrong(TestCase):
                 if kind is None:
                     for value in some:
                         before = repr(value)
-                        self.assertIn(call(*put(arguments, at, value)), (True, False))
+                        self.assertIn(call(*put(arguments, at, value)), (True, False, None))
                         self.assertEqual(repr(value), before)
 
     def test_the_first_error_applies(self):

@@ -1,0 +1,7 @@
+"""All functions of the interface, as in the table of `calls`."""
+
+from tests.calls import CALLS
+from tests.calls_lines import LINE_CALLS
+from tests.calls_trees import TREE_CALLS
+
+EVERY_CALL = CALLS + LINE_CALLS + TREE_CALLS

@@ -6,7 +6,7 @@ from eightworlds.pairings import sides_by_ways, ways_along
 from eightworlds.polygons import need_cut, need_cutting, ties
 from eightworlds.snakes import cuts_along, need_line, snake_along
 from eightworlds.sums import sum_multiplied
-from eightworlds.tables import need_way, order_behind, table_of
+from eightworlds.tables import need_way, order_behind, table
 
 MOST_CROSSED = 10
 MOST_SIDES_NAMED = 12
@@ -64,7 +64,7 @@ def exchange_sum(cutting, cut):
     need_cutting(cutting)
     need_cut(cutting, cut)
     known = ties(cutting)
-    row = table_of(cutting)[cutting[1].index(cut)]
+    row = table(cutting)[cutting[1].index(cut)]
     products = [
         powers_of(known, [tie for tie, number in zip(known, row) if number == sign], [cut]) for sign in (1, -1)
     ]

@@ -69,8 +69,8 @@ def lot_by_pairing(tiles, pairing):
     for at, here in enumerate(by_tile):
         beside = [rail for others in by_tile[max(at - 1, 0):at] + by_tile[at + 1:at + 2] for rail in others]
         # Rails that are of this tile alone come and go by its own flips alone.
-        own, rail = [(place, rail) for place, rail in enumerate(here) if rail not in beside][0]
-        stands = (rail in pairing) == (own % 2 == 0)
+        place, own = [(some, rail) for some, rail in enumerate(here) if rail not in beside][0]
+        stands = (own in pairing) == (place % 2 == 0)
         if stands != (at % 2 == 0):
             lot.append(at)
     return tuple(lot)

@@ -6,7 +6,7 @@ from eightworlds.basics import is_between, is_int, need_number
 from eightworlds.errors import InvalidBlocks, InvalidPoints
 from eightworlds.listing import cutting_numbered, number_of, ways_of_forks
 from eightworlds.overs import parting_cutting
-from eightworlds.partings import need_parting, need_points, parting_by_corners
+from eightworlds.partings import need_points, parting_by_corners
 
 MOST_POINTS_COUNTED = 1000
 MOST_BLOCKS = 90
@@ -67,7 +67,6 @@ def count_great(points):
 
 def parting_number(parting):
     """Return the number of the cutting whose parting it is."""
-    need_parting(parting)
     return number_of(parting_cutting(parting))
 
 

@@ -3,9 +3,9 @@
 from eightworlds.basics import are_between, is_ascending, is_between, need_few
 from eightworlds.errors import InvalidParting, InvalidPoints, Unlike
 from eightworlds.listing import cutting_numbered, ways_of_forks
-from eightworlds.polygons import MOST_SIDES, crosses, parts
+from eightworlds.polygons import crosses, parts
 
-MOST_POINTS = MOST_SIDES - 2
+MOST_POINTS = 38
 MOST_POINTS_LISTED = 8
 
 
@@ -141,7 +141,6 @@ def join_of(fine, coarse):
 def partings_between(fine, coarse):
     """Return the ascending list of all partings between two partings, these too."""
     need_partings(fine, coarse)
-    need_few(many_points(fine), MOST_POINTS_LISTED)
     some = partings(many_points(fine))
     return [parting for parting in some if lies_within(fine, parting) and lies_within(parting, coarse)]
 
@@ -161,6 +160,6 @@ def signed_number(fine, coarse):
     for block in coarse:
         within = tuple([tuple([block.index(point) for point in part]) for part in fine if part[0] in block])
         # What lies between some blocks and one is like what lies between single points and the over of the blocks.
-        for part in over_by_blocks(within):
-            number = number * signed_of_block(len(part))
+        for points in over_by_blocks(within):
+            number = number * signed_of_block(len(points))
     return number

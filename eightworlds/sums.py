@@ -71,8 +71,8 @@ def sum_multiplied(one, other):
     # Each power is taken from a list, at its own index, as fresh integers would need much more room.
     known = list(range(2 * MOST_POWER + 1)) + list(range(-2 * MOST_POWER, 0))
     moved = [
-        {power: [known[power + more] for more in theirs] for power in sorted(set(mine))}
-        for mine, theirs in zip(columns_of(one), columns_of(other))
+        {power: [known[power + theirs] for theirs in yours] for power in sorted(set(mine))}
+        for mine, yours in zip(columns_of(one), columns_of(other))
     ]
     keys = [packed(powers) for powers, _ in other]
     numbers, totals = {}, {}
@@ -119,16 +119,13 @@ def product_of(factors):
 
 
 def factors_by_power(share, low, high):
-    """Return the powers of a length from the one to the other one, as integers: times its below to the other one,
-
-    and divided by its top to the one.
-    """
+    """Return, by the powers from the one to the other one, those of a length, all made integers by the same factor."""
     tops, belows = powers_up_to(share[0], high - low), powers_up_to(share[1], high - low)
     return {power: tops[power - low] * belows[high - power] for power in range(low, high + 1)}
 
 
 def common_share(share, low, high):
-    """Return what the integers of `factors_by_power` have to be taken times, as a pair of a top and a below."""
+    """Return what undoes the factor by which powers of a length have been made integers, as a top and a below."""
     top = powers_up_to(share[0], max(low, 0))[-1] * powers_up_to(share[1], max(-high, 0))[-1]
     below = powers_up_to(share[0], max(-low, 0))[-1] * powers_up_to(share[1], max(high, 0))[-1]
     return (top, below)

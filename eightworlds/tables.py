@@ -10,8 +10,8 @@ MOST_CUTS = 30
 MOST_SIDES_BY_TABLE = 8
 
 
-def table_of(cutting):
-    """Return the table of what is known to be a cutting."""
+def table(cutting):
+    """Return the table of a cutting."""
     follows = {}
     for low, middle, high in pieces(cutting):
         first, second, third = (low, middle), (middle, high), (low, high)
@@ -23,17 +23,11 @@ def table_of(cutting):
     return tuple([tuple([follows.get((cut, tie), 0) for tie in known]) for cut in cutting[1]])
 
 
-def table(cutting):
-    """Return the table of a cutting."""
-    need_cutting(cutting)
-    return table_of(cutting)
-
-
 def cutting_with_table(value):
     """Return a cutting of at most 8 sides whose table any value is, or None."""
     if not isinstance(value, tuple) or len(value) + 3 > MOST_SIDES_BY_TABLE:
         return None
-    fit = [cutting for cutting in cuttings(len(value) + 3) if is_same(value, table_of(cutting))]
+    fit = [cutting for cutting in cuttings(len(value) + 3) if is_same(value, table(cutting))]
     return fit[0] if fit else None
 
 
@@ -64,7 +58,7 @@ def table_turned(cutting, cut):
     """Return the table of a cutting turned at a cut."""
     need_cutting(cutting)
     need_cut(cutting, cut)
-    return turned_at(table_of(cutting), cutting[1].index(cut), ties(cutting).index(cut))
+    return turned_at(table(cutting), cutting[1].index(cut), ties(cutting).index(cut))
 
 
 def need_way(cutting, value):
@@ -91,7 +85,7 @@ def table_behind(cutting, way):
     need_cutting(cutting)
     along = need_way(cutting, way)
     columns = [ties(cutting).index(cut) for cut in cutting[1]]
-    rows = table_of(cutting)
+    rows = table(cutting)
     for place in places_along(cutting, way, along)[0]:
         rows = turned_at(rows, place, columns[place])
     return rows

@@ -74,7 +74,8 @@ def way_up(one, other):
         return None
     way = []
     while row != aim:
-        fork = [fork for fork in forks_to_turn(row) if lies_below(row_turned(row, fork), aim)][0]
+        # Where one tree is below another one, turning some fork of it leads to one that is still below.
+        fork = [some for some in forks_to_turn(row) if lies_below(row_turned(row, some), aim)][0]
         way.append(fork)
         row = row_turned(row, fork)
     return tuple(way)

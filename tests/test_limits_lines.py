@@ -76,7 +76,7 @@ class Limits(Timed):
                     # There are up to 160,000 products of up to 77 ties.
                     self.timed(sums.multiplied, cutting, one, other, within=3.0)
                     for great in (0, 1000) if most < 60 or ties < 40 else (0,):
-                        self.timed(sums.value_by, cutting, one, many_lengths(cutting, great))
+                        self.timed(sums.value_by, cutting, one, many_lengths(cutting, great), within=3.0)
 
     def test_names(self):
         for cutting, line in ((zigzag(13), (0, 7)), (fan(40), (1, 12)), (zigzag(40), (0, 6))):

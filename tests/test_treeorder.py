@@ -13,7 +13,8 @@ from tests.calls_trees import comb_of
 from tests.helpers import SMALL, TRIANGLE, fan, halved, zigzag
 from tests.slow_trees import ABOVE, SOME_TREES, TREES, turns
 
-GREAT_TREES = [tree_with(24, number) for number in (0, 7 * 10 ** 5, 10 ** 9, 10 ** 12 + 7, 1289904147323)] + [tree_of(halved(26)), tree_of(zigzag(26))]
+GREAT_TREES = [tree_with(24, number) for number in (0, 7 * 10 ** 5, 10 ** 9, 10 ** 12 + 7, 1289904147323)]
+GREAT_TREES += [tree_of(halved(26)), tree_of(zigzag(26))]
 
 
 def pairs():

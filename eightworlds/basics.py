@@ -1,4 +1,4 @@
-"""What several modules need: integers, their tuples, and fractions."""
+"""What several modules need: integers, their tuples, fractions, and distances."""
 
 from math import gcd
 
@@ -82,3 +82,18 @@ def ratio_product(one, other):
 def ratio_quotient(one, other):
     """Return a fraction divided by another one above nought."""
     return ratio(one[0] * other[1], one[1] * other[0])
+
+
+def distances_by(start, beside):
+    """Return how few steps lead to each value, by these, the nearest first; a function lists what is beside one."""
+    found = {start: 0}
+    layer = [start]
+    while layer:
+        met = []
+        for one in layer:
+            for other in beside(one):
+                if other not in found:
+                    found[other] = found[one] + 1
+                    met.append(other)
+        layer = met
+    return found

@@ -53,15 +53,20 @@ def all_lengths(cutting, lengths):
     return [across(one, other) for at, one in enumerate(arrows) for other in arrows[at + 1:]]
 
 
+def span_behind(cutting, spans, cut):
+    """Return the cut that comes if a cut is exchanged, and its length, by the lengths of the ties."""
+    new = cut_behind(cutting, cut)
+    first, second, third, fourth = sorted(cut + new)
+    one = ratio_product(spans[(first, second)], spans[(third, fourth)])
+    other = ratio_product(spans[(second, third)], spans[(first, fourth)])
+    return (new, ratio_quotient(ratio_sum(one, other), spans[cut]))
+
+
 def lengths_behind(cutting, lengths, cut):
     """Return the lengths of all ties of the cutting behind an exchange, in their order."""
     need_cutting(cutting)
     need_lengths(cutting, lengths)
     need_cut(cutting, cut)
     spans = spans_by(cutting, lengths)
-    new = cut_behind(cutting, cut)
-    first, second, third, fourth = sorted(cut + new)
-    one = ratio_product(spans[(first, second)], spans[(third, fourth)])
-    other = ratio_product(spans[(second, third)], spans[(first, fourth)])
-    spans[new] = ratio_quotient(ratio_sum(one, other), spans[cut])
-    return tuple([spans[tie] for tie in ties(exchanged(cutting, cut))])
+    new, share = span_behind(cutting, spans, cut)
+    return tuple([share if tie == new else spans[tie] for tie in ties(exchanged(cutting, cut))])

@@ -1,7 +1,7 @@
 """Polygons, their cuttings, and the pieces of these."""
 
 from eightworlds.basics import are_ints, is_ascending, is_between
-from eightworlds.errors import InvalidCut, InvalidCutting, InvalidSides
+from eightworlds.errors import InvalidCorner, InvalidCut, InvalidCutting, InvalidSides
 
 MOST_SIDES = 40
 
@@ -53,6 +53,12 @@ def need_cut(cutting, value):
     """Raise InvalidCut for what is no cut of a cutting."""
     if not are_ints(value, 2) or value not in cutting[1]:
         raise InvalidCut("a cut of the cutting is needed")
+
+
+def need_corner(sides, value):
+    """Raise InvalidCorner for what is no corner of the polygon with so many sides."""
+    if not is_between(value, 0, sides - 1):
+        raise InvalidCorner("a corner of the polygon is needed")
 
 
 def part_over(base, ends):

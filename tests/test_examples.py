@@ -12,7 +12,23 @@ HERE = Path(__file__).parent
 DOCUMENT = HERE.parent.parent / "shared" / "DOC.md"
 MODULES = """polygons exchanges turning listing rows friezes choices valued roads chains gears measures snakes pairings
 shapes lengths tables sums names leads treeforms treerows treenumbers treeorder treechains partings overs partingcounts
-swaps""".split()
+swaps passes ways shared fewest layers atonce loose loosecounts sieving reaches states tellings worldtexts worldvalues
+worldbenches""".split()
+# What the interface lists for each class, with the arguments.
+CLASSES = {
+    "worldvalues": ("Gauged", {
+        "__init__": "self cutting lengths", "ones": "cls cutting", "cutting": None, "lengths": None, "__xor__": "self other",
+        "__ixor__": "self other", "__lshift__": "self other", "__invert__": "self", "__mul__": "self other",
+        "__call__": "self first last", "__getitem__": "self at", "__contains__": "self value", "__len__": "self",
+        "__bool__": "self", "__str__": "self", "same": "self other", "__iter__": "self", "__eq__": "self other",
+    }),
+    "worldbenches": ("Bench", {
+        "__init__": "self state", "do": "self step", "__iadd__": "self other", "undo": "self", "redo": "self",
+        "attempt": "self action", "lines": "self", "state": None, "cutting": None, "lengths": None, "line": None, "seat": None,
+        "counts": None, "crossed": None, "reach": None, "log": None, "__getitem__": "self at", "__contains__": "self value",
+        "__len__": "self", "__bool__": "self", "__iter__": "self", "__eq__": "self other",
+    }),
+}
 
 
 def sections():
@@ -62,6 +78,12 @@ class Interface(TestCase):
             text = document.split(f"## eightworlds/{module}.py", 1)[1].split("\n## ", 1)[0]
             loaded = import_module(f"eightworlds.{module}")
             told = findall(r"`([a-z_]+)\(([a-z_, ]*)\)`", text)
+            if module in CLASSES:
+                methods = CLASSES[module][1]
+                for name, arguments in told:
+                    if name not in ("len", "str"):
+                        self.assertEqual(" ".join(["self"] + arguments.split(", ")).strip(), methods[name])
+                continue
             self.assertTrue(told)
             for name, arguments in told:
                 call = getattr(loaded, name)
@@ -69,3 +91,26 @@ class Interface(TestCase):
                 many = call.__code__.co_argcount
                 self.assertEqual(list(call.__code__.co_varnames[:many]), arguments.split(", "))
                 self.assertIsNone(call.__defaults__)
+
+    def test_all_methods_are_there(self):
+        """Each method, property and operator that the interface lists is defined in the class itself."""
+        for module, (name, methods) in CLASSES.items():
+            kind = getattr(import_module(f"eightworlds.{module}"), name)
+            self.assertEqual((kind.__module__, kind.__bases__), (f"eightworlds.{module}", (object,)))
+            for method, arguments in methods.items():
+                own = vars(kind)[method]
+                if arguments is None:
+                    self.assertIsInstance(own, property)
+                    self.assertIsNone(own.fset)
+                    continue
+                call = own.__func__ if isinstance(own, classmethod) else own
+                self.assertEqual(isinstance(own, classmethod), arguments.startswith("cls"))
+                self.assertEqual(list(call.__code__.co_varnames[:call.__code__.co_argcount]), arguments.split())
+                self.assertIsNone(call.__defaults__)
+
+    def test_no_module_is_left_out(self):
+        """Each heading of the document has its module, and each module its heading."""
+        folder = HERE.parent / "eightworlds"
+        self.assertEqual(sorted(path.stem for path in folder.glob("*.py")), sorted(MODULES + ["__init__", "basics", "errors"]))
+        if DOCUMENT.exists():
+            self.assertEqual(findall(r"\n## eightworlds/([a-z]+)\.py", DOCUMENT.read_text()), MODULES + ["errors"])

@@ -16,7 +16,9 @@ super property staticmethod classmethod""".split())
 LIBRARY = {"math": {"gcd", "lcm", "isqrt", "comb", "perm", "factorial"}}
 METHODS = set("""append clear copy count endswith extend find get index insert isalnum isalpha isdigit islower isspace
 isupper items join keys ljust lower lstrip partition pop remove replace reverse rfind rjust rpartition rsplit rstrip
-setdefault split splitlines startswith strip update upper values zfill bit_length isascii isdecimal""".split())
+setdefault split splitlines startswith strip update upper values zfill bit_length isascii isdecimal removeprefix
+removesuffix""".split())
+MODIFYING = set("append clear extend insert pop remove reverse setdefault update".split())
 BARRED = set("""type typing enum Enum Generic Protocol ABC namedtuple dataclass overload register mro elements open input law
 eval exec globals locals getattr setattr hasattr delattr vars dir id compile""".split())
 
@@ -88,12 +90,12 @@ class Names(TestCase):
             self.assertEqual([name for name in imported(tree) if name not in used], [], path)
 
     def test_all_helpers_are_used(self):
-        text = "\n".join(path.read_text() for path in FILES)
+        used = [node.id for _, node in nodes(ast.Name)]
         document = (PACKAGE.parent / "README.md").read_text()
         for path, tree in TREES.items():
             for node in tree.body:
                 if isinstance(node, ast.FunctionDef) and f"`{node.name}(" not in document:
-                    self.assertGreater(text.count(f"{node.name}("), 1, (path, node.name))
+                    self.assertIn(node.name, used, path)
 
     def test_nothing_is_named_twice(self):
         for path, tree in TREES.items():
@@ -126,12 +128,30 @@ class Names(TestCase):
 class Forms(TestCase):
     def test_no_other_statements(self):
         barred = (
-            ast.Global, ast.AsyncFunctionDef, ast.Await, ast.Try, ast.With, ast.Match, ast.GeneratorExp, ast.Yield,
-            ast.YieldFrom, ast.Lambda, ast.AugAssign, ast.AnnAssign, ast.NamedExpr, ast.Set, ast.Div,
+            ast.Global, ast.AsyncFunctionDef, ast.Await, ast.With, ast.Match, ast.GeneratorExp, ast.YieldFrom, ast.Lambda,
+            ast.AugAssign, ast.AnnAssign, ast.NamedExpr, ast.Set, ast.Div,
         )
         self.assertEqual([(path.name, node.lineno) for path, node in nodes(barred)], [])
-        self.assertEqual([path.name for path, node in nodes(ast.FunctionDef) if node.decorator_list], [])
+        decorators = [ast.unparse(one) for _, node in nodes(ast.FunctionDef) for one in node.decorator_list]
+        self.assertLessEqual(set(decorators), {"property", "classmethod"})
         self.assertEqual([path.name for path, node in nodes(ast.Constant) if isinstance(node.value, (float, bytes))], [])
+
+    def test_no_error_is_caught(self):
+        for path, node in nodes(ast.Try):
+            self.assertEqual(node.handlers + node.orelse, [], path)
+            for one in node.finalbody:
+                self.assertIsInstance(one, (ast.If, ast.Assign))
+                for test in [inner.test for inner in ast.walk(one) if isinstance(inner, ast.If)]:
+                    self.assertRegex(ast.unparse(test), r"^[a-z_.]+ is (not )?None$")
+
+    def test_generators(self):
+        makers = [node for _, node in nodes(ast.FunctionDef) if any(isinstance(one, ast.Yield) for one in ast.walk(node))]
+        yields = [node.value for _, node in nodes(ast.Expr) if isinstance(node.value, ast.Yield)]
+        self.assertEqual(len(yields), len(nodes(ast.Yield)))
+        names = [node.name for _, node in nodes(ast.FunctionDef)]
+        for node in makers:
+            self.assertEqual(names.count(node.name), 1)
+            self.assertFalse([one for one in ast.walk(node) if isinstance(one, ast.Return)])
 
     def test_stars_stand_in_zips(self):
         # Behind a star stands a name, and the zip goes straight into a list.
@@ -152,9 +172,13 @@ class Forms(TestCase):
                 self.assertLess(node.right.value, 65, path)
 
     def test_methods(self):
+        own = {
+            one.name for _, node in nodes(ast.ClassDef) for one in node.body if isinstance(one, ast.FunctionDef)
+        }
+        self.assertFalse({name for name in own if not name.startswith("__")} & set(dir(str) + dir(list) + dir(dict) + dir(set)))
         for path, node in nodes(ast.Call):
             if isinstance(node.func, ast.Attribute):
-                self.assertIn(node.func.attr, METHODS | {"__init__"}, path)
+                self.assertIn(node.func.attr, METHODS | own, path)
 
     def test_is_stands_with_constants(self):
         for path, node in nodes(ast.Compare):
@@ -180,3 +204,65 @@ class Forms(TestCase):
                 if isinstance(node, ast.Assign):
                     self.assertEqual(len(node.targets), 1)
                     self.assertFalse([one for one in ast.walk(node) if isinstance(one, (ast.Call, ast.ListComp))])
+
+
+def made_here(function):
+    """The names of a function that are assigned nothing but lists and dicts that it makes itself."""
+    found = {}
+    for node in ast.walk(function):
+        if isinstance(node, ast.Assign):
+            for target in node.targets:
+                if isinstance(target, ast.Name):
+                    made = isinstance(node.value, (ast.List, ast.Dict, ast.ListComp))
+                    made = made or (isinstance(node.value, ast.Call) and ast.unparse(node.value.func) in ("list", "dict", "sorted"))
+                    found[target.id] = found.get(target.id, True) and made
+    return {name for name, made in found.items() if made}
+
+
+def changes(function):
+    """All lines of a function that change anything but what it makes itself."""
+    made = made_here(function)
+    found = []
+    for node in ast.walk(function):
+        if isinstance(node, (ast.Assign, ast.Delete)):
+            targets = [one for target in node.targets for one in ast.walk(target)]
+            for one in targets:
+                if isinstance(one, ast.Attribute) and isinstance(one.ctx, (ast.Store, ast.Del)):
+                    found.append(ast.unparse(node))
+                if isinstance(one, ast.Subscript) and isinstance(one.ctx, (ast.Store, ast.Del)):
+                    if not isinstance(one.value, ast.Name) or one.value.id not in made:
+                        found.append(ast.unparse(node))
+        if isinstance(node, ast.Call) and isinstance(node.func, ast.Attribute) and node.func.attr in MODIFYING:
+            if not isinstance(node.func.value, ast.Name) or node.func.value.id not in made:
+                found.append(ast.unparse(node))
+    return found
+
+
+class Operators(TestCase):
+    """Operators, properties and the like change nothing, and so do the functions that they call."""
+
+    def called(self, function):
+        """The names of all functions and methods that a function calls."""
+        calls = [node.func for node in ast.walk(function) if isinstance(node, ast.Call)]
+        return {one.id if isinstance(one, ast.Name) else one.attr for one in calls if isinstance(one, (ast.Name, ast.Attribute))}
+
+    def test_nothing_is_changed(self):
+        functions = {node.name: node for tree in TREES.values() for node in tree.body if isinstance(node, ast.FunctionDef)}
+        methods = [node for _, one in nodes(ast.ClassDef) for node in one.body if isinstance(node, ast.FunctionDef)]
+        plain = {node.name: node for node in methods if not node.name.startswith("__") and not node.decorator_list}
+        free = ("__init__", "__ixor__", "__iadd__", "__call__")
+        waiting = [node for node in methods if node.name.startswith("__") and node.name not in free]
+        waiting += [node for node in methods if [ast.unparse(one) for one in node.decorator_list] == ["property"]]
+        self.assertGreater(len(waiting), 20)
+        seen = set()
+        while waiting:
+            node = waiting.pop()
+            self.assertEqual(changes(node), [], node.name)
+            for name in self.called(node) - seen:
+                seen.add(name)
+                if name in functions or name in plain:
+                    waiting.append(functions.get(name) or plain[name])
+            parameters = {one.arg for one in node.args.args}
+            self.assertFalse(parameters & self.called(node), node.name)
+        self.assertIn("tops_from_first", seen)
+        self.assertNotIn("add_call", seen)

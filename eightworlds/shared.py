@@ -1,6 +1,6 @@
 """Cuts that two cuttings share, and the fields between these."""
 
-from eightworlds.basics import are_between, is_ascending
+from eightworlds.basics import are_between
 from eightworlds.errors import InvalidField
 from eightworlds.polygons import is_cut_within, need_cutting, parts, ties
 from eightworlds.ways import need_both
@@ -25,8 +25,9 @@ def shared_fields(one, other):
 
 def is_field(cutting, value):
     """Return whether any value is the corners of a polygon whose sides are ties of a cutting."""
-    if not are_between(value, 0, cutting[0] - 1) or len(value) < 3 or not is_ascending(value):
+    if not are_between(value, 0, cutting[0] - 1) or len(value) < 3:
         return False
+    # Ties are ascending pairs; so the corners are ascending, too.
     known = ties(cutting)
     return (value[0], value[-1]) in known and all([pair in known for pair in zip(value, value[1:])])
 

@@ -9,24 +9,25 @@ from eightworlds.reaches import need_unlike_corners
 MOST_SIDES_TOLD = 9
 MOST_FACTS = 8
 MOST_COUNT = 40
+# For each word of a fact, of what kinds the items behind it are.
+KINDS = {"tie": ("corner", "corner", "truth"), "count": ("corner", "count"), "ear": ("corner", "truth")}
 
 
-def are_items(sides, word, items):
-    """Return whether any values are the items of a fact with such a word."""
-    if not all([is_between(corner, 0, sides - 1) for corner in items[:-1]]):
-        return False
-    if word == "count":
-        return len(items) == 2 and is_between(items[1], 0, MOST_COUNT)
-    if not isinstance(items[-1], bool):
-        return False
-    return len(items) == 2 if word == "ear" else len(items) == 3 and items[0] < items[1]
+def is_item(sides, kind, value):
+    """Return whether any value is an item of a fact of such a kind."""
+    if kind == "truth":
+        return isinstance(value, bool)
+    return is_between(value, 0, sides - 1 if kind == "corner" else MOST_COUNT)
 
 
 def is_fact(sides, value):
     """Return whether any value is a fact of the polygon with so many sides."""
-    if not isinstance(value, tuple) or not 3 <= len(value) <= 4 or not isinstance(value[0], str):
+    if not isinstance(value, tuple) or len(value) == 0 or not isinstance(value[0], str) or value[0] not in KINDS:
         return False
-    return value[0] in ("tie", "count", "ear") and are_items(sides, value[0], value[1:])
+    kinds = KINDS[value[0]]
+    if len(value) != len(kinds) + 1 or not all([is_item(sides, kind, item) for kind, item in zip(kinds, value[1:])]):
+        return False
+    return value[0] != "tie" or value[1] < value[2]
 
 
 def need_facts(sides, value):

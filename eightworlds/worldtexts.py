@@ -9,8 +9,8 @@ DIGITS = "0123456789"
 # Python itself writes and reads no very long integers at once; so they are taken by so many digits.
 PLACES = 64
 BASE = 10 ** 64
-# No integer in the texts of cuttings and scripts has more signs.
-MOST_SIGNS = 4
+# Corners, sides and steps of turning have no more digits.
+MOST_DIGITS = 2
 
 
 def integer_text(number):
@@ -36,8 +36,8 @@ def integer_in(word):
 
 
 def small_in(word):
-    """Return the integer from 0 on that is written so, or None; also for longer ones than these texts have."""
-    return integer_in(word) if len(word) <= MOST_SIGNS else None
+    """Return the integer from 0 on that is written so with few digits, or None."""
+    return integer_in(word) if len(word) <= MOST_DIGITS else None
 
 
 def pair_text(pair):
@@ -46,10 +46,9 @@ def pair_text(pair):
 
 
 def pair_in(word):
-    """Return the pair of corners that is written so, or None."""
-    low, dash, high = word.partition("-")
-    pair = (small_in(low), small_in(high))
-    return None if dash == "" or None in pair else pair
+    """Return the pair of corners that is written so, with None for what is no integer."""
+    low, _, high = word.partition("-")
+    return (small_in(low), small_in(high))
 
 
 def share_text(share):
@@ -59,10 +58,11 @@ def share_text(share):
 
 
 def share_in(word):
-    """Return the pair of integers that is written so, as a fraction is; or None."""
+    """Return the pair that is written so as a fraction is, with None for what is no integer; or None."""
     top, stroke, below = word.partition("/")
-    share = (integer_in(top), 1 if stroke == "" else integer_in(below))
-    return None if None in share or below == "1" else share
+    if below == "1":
+        return None
+    return (integer_in(top), 1 if stroke == "" else integer_in(below))
 
 
 def steps_in(word):

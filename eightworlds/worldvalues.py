@@ -4,7 +4,7 @@ from eightworlds.basics import are_ints, need_number, ratio_product
 from eightworlds.errors import InvalidTie, Unlike
 from eightworlds.exchanges import exchanged
 from eightworlds.lengths import lengths_behind, need_lengths, spans_by
-from eightworlds.polygons import need_cut, need_cutting, ties
+from eightworlds.polygons import need_cutting, ties
 from eightworlds.reaches import (
     all_reaches_by, cutting_by_ties, lengths_by, need_share, need_unlike_corners, numbers_turned, reach_between,
     reaches_of, spans_numbered
@@ -22,11 +22,6 @@ def length_of_tie(cutting, lengths, value):
     if not is_tie(cutting, value):
         raise InvalidTie("a tie of the cutting is needed")
     return lengths[ties(cutting).index(value)]
-
-
-def are_whole(shares):
-    """Return whether all fractions are integers."""
-    return all([below == 1 for _, below in shares])
 
 
 class Gauged:
@@ -61,7 +56,6 @@ class Gauged:
 
     def __xor__(self, other):
         """Return it with a cut exchanged."""
-        need_cut(self._cutting, other)
         return Gauged(exchanged(self._cutting, other), lengths_behind(self._cutting, self._lengths, other))
 
     def __ixor__(self, other):
@@ -108,7 +102,10 @@ class Gauged:
 
     def __bool__(self):
         """Return whether all reaches are integers."""
-        return are_whole(self._lengths) and are_whole(all_reaches_by(self._cutting, self._lengths))
+        # The lengths are reaches, too, and sooner known.
+        return all([below == 1 for _, below in self._lengths]) and all(
+            [below == 1 for _, below in all_reaches_by(self._cutting, self._lengths)]
+        )
 
     def __eq__(self, other):
         """Return whether anything is the same cutting with the same lengths."""

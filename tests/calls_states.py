@@ -48,7 +48,7 @@ SCRIPT = (errors.InvalidScript, helpers.OTHERS + helpers.INTS + [step for step i
     SCRIPT_VALUE[:2] + (step,) for step in NO_STEPS[::4]
 ] + [(("mirror",),) * 13, (("mirror",),) * 400, [("mirror",)], list(SCRIPT_VALUE), ("mirror",)])
 FACTS = (errors.InvalidFacts, helpers.OTHERS + helpers.INTS + [
-    (("tie", 0, 2),), (("tie", 2, 0, True),), (("tie", 0, 0, True),), (("tie", 0, 5, True),), (("tie", -1, 2, True),), (("tie", 0, 2, 1),),
+    (("tie", 0, 2),), (("tie", 0, True),), (("tie",),), (("ear",),), (("ear", True),), (("tie", 2, 0, True),), (("tie", 0, 0, True),), (("tie", 0, 5, True),), (("tie", -1, 2, True),), (("tie", 0, 2, 1),),
     (("tie", 0, 2, None),), (("tie", 0, 2, True, True),), (("tie", (0, 2), True),), (("tie", False, 2, True),), (("count", 0),),
     (("count", 5, 1),), (("count", 0, 41),), (("count", 0, -1),), (("count", 0, True),), (("count", True, 1),), (("count", 0, 1, 1),),
     (("count", 0, 1, True),), (("ear", 0),), (("ear", 5, True),), (("ear", 0, 1),), (("ear", 0, None),), (("ear", 0, 1, True),), (("ear", -1, True),),

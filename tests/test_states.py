@@ -200,6 +200,9 @@ class Errors(TestCase):
                 self.check(state, ("exchange", pair), InvalidCut)
             if pair not in ((0, 2), (2, 5)):
                 self.check(state, ("walk", pair), InvalidCut)
+        # A cut with one corner of the seat is not enough, be it the lesser one or the greater one.
+        self.check((FAN, some_lengths(FAN), (1, 4), (0, 1, 2)), ("walk", (0, 3)), InvalidCut)
+        self.check((fan(6, 5), some_lengths(fan(6, 5)), (1, 4), (0, 1, 5)), ("walk", (2, 5)), InvalidCut)
         self.check(THREE, ("exchange", (0, 2)), InvalidCut)
         self.check(THREE, ("walk", (0, 2)), InvalidCut)
 
